@@ -1,0 +1,1 @@
+"""Guardrows: two rows of steps that share boxes and one guard."""
