@@ -62,29 +62,24 @@ class TwinTest(unittest.TestCase):
                 self.assertEqual(standing(twin), before)
                 self.assertEqual(standing(loom), before)
 
-    def test_a_twin_goes_its_own_way(self):
+    def assert_the_other_stays(self, goes, stays):
+        """At each place of the order one of loom and twin goes on, and the other one stays."""
         end = standing(gone(ONES, OTHERS, BOXES, ORDER))
         for many in range(len(ORDER)):
             with self.subTest(many=many):
                 loom = gone(ONES, OTHERS, BOXES, ORDER[:many])
                 before = standing(loom)
-                twin = loom.twin()
+                pair = [loom, loom.twin()]
                 for hand in ORDER[many:]:
-                    twin.go(hand)
-                self.assertEqual(standing(twin), end)
-                self.assertEqual(standing(loom), before)
+                    pair[goes].go(hand)
+                self.assertEqual(standing(pair[goes]), end)
+                self.assertEqual(standing(pair[stays]), before)
+
+    def test_a_twin_goes_its_own_way(self):
+        self.assert_the_other_stays(goes=1, stays=0)
 
     def test_a_loom_goes_on_without_its_twin(self):
-        end = standing(gone(ONES, OTHERS, BOXES, ORDER))
-        for many in range(len(ORDER)):
-            with self.subTest(many=many):
-                loom = gone(ONES, OTHERS, BOXES, ORDER[:many])
-                before = standing(loom)
-                twin = loom.twin()
-                for hand in ORDER[many:]:
-                    loom.go(hand)
-                self.assertEqual(standing(loom), end)
-                self.assertEqual(standing(twin), before)
+        self.assert_the_other_stays(goes=0, stays=1)
 
     def test_a_twin_takes_other_turns(self):
         row = [("load", 0), ("add", 1), ("store", 0)]
