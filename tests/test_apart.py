@@ -4,9 +4,7 @@ import unittest
 
 from guardrows.loom import Loom
 from guardrows.steps import apart
-from tests.helper import SEVEN
-
-SIXTY_FIGURES = 10 ** 60 - 1
+from tests.helper import SEVEN, SIXTY_FIGURES
 
 # The pairs of words, in either order, that are not apart where they are of the same box.
 SAME_BOX = [("load", "store"), ("plus", "store"), ("store", "store")]

@@ -4,9 +4,8 @@ import unittest
 
 from guardrows.errors import BadBox, BadStep, TooMany
 from guardrows.loom import Loom
-from tests.helper import SEVEN, standing
+from tests.helper import SEVEN, SIXTY_FIGURES, standing
 
-SIXTY_FIGURES = 10 ** 60 - 1
 GOOD = ("add", 1)
 NO_STEP = ("sub", 1)
 NO_BOX = ("load", 2)

@@ -3,9 +3,8 @@
 import unittest
 
 from guardrows.steps import is_step
-from tests.helper import SEVEN
+from tests.helper import SEVEN, SIXTY_FIGURES
 
-SIXTY_FIGURES = 10 ** 60 - 1
 WITH_A_NUMBER = ["load", "plus", "store", "add"]
 BARE = ["twice", "take", "free"]
 

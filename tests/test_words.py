@@ -3,9 +3,7 @@
 import unittest
 
 from guardrows.loom import Loom
-from tests.helper import gone
-
-SIXTY_FIGURES = 10 ** 60 - 1
+from tests.helper import SIXTY_FIGURES, gone
 
 
 class WordTest(unittest.TestCase):
